@@ -367,6 +367,12 @@ func TestLayoutGrownDocs(t *testing.T) {
 	}
 }
 
+// fullDoc answers the document in so many nests by 0 that it has MaxPieces
+// elements.
+func fullDoc(d doc) doc {
+	return slices.Concat(d, slices.Repeat(leafDoc(impl.DocNest), impl.MaxPieces-len(d)))
+}
+
 func TestLayoutLongDocs(t *testing.T) {
 	const size = impl.MaxPieces
 	of := func(kind, n int) doc { return slices.Repeat(leafDoc(kind), n) }
@@ -379,16 +385,14 @@ func TestLayoutLongDocs(t *testing.T) {
 	checkNoLayout(t, "one element more", append(deep, impl.Piece{Kind: impl.DocGroup}), 1)
 	checkNoRender(t, "one element more", append(deep, impl.Piece{Kind: impl.DocGroup}), all(flat, size)...)
 
-	// A row of three elements each and a cat between them, in both shapes.
-	const items = size / 4
-	item := catDoc(groupDoc(textDoc("é")), nothing)[:2]
-	left := slices.Clone(item)
-	for range items - 1 {
-		left = append(append(left, item...), impl.Piece{Kind: impl.DocCat}, impl.Piece{Kind: impl.DocNest})
-	}
+	// Cats to the left and to the right, filled up with nests of nothing.
+	const items = size / 3
+	item := groupDoc(textDoc("é"))
+	left := catDoc(item, slices.Repeat([]doc{item}, items-1)...)
 	right := slices.Concat(slices.Repeat(item, items), of(impl.DocCat, items-1))
 	for _, d := range []doc{left, right} {
 		text := strings.Repeat("é", items)
+		d = fullDoc(d)
 		checkLayout(t, "groups in a row", d, items, text, all(flat, items)...)
 		checkLayout(t, "groups in a row", d, items-1, text, all(broken, items)...)
 	}
@@ -399,6 +403,7 @@ func TestLayoutLongDocs(t *testing.T) {
 	for range rounds {
 		chain = append(chain, impl.Piece{Kind: impl.DocLine}, impl.Piece{Kind: impl.DocCat}, impl.Piece{Kind: impl.DocGroup}, impl.Piece{Kind: impl.DocNest})
 	}
+	chain = fullDoc(chain)
 	checkLayout(t, "a chain", chain, rounds+1, "é"+strings.Repeat(" ", rounds), all(flat, rounds)...)
 	checkLayout(t, "a chain", chain, 0, "é"+strings.Repeat("\n", rounds), all(broken, rounds)...)
 	half := slices.Concat(all(flat, rounds/2), all(broken, rounds-rounds/2))
@@ -408,6 +413,7 @@ func TestLayoutLongDocs(t *testing.T) {
 	for range rounds {
 		alts = append(alts, impl.Piece{Kind: impl.DocGroup}, impl.Piece{Kind: impl.DocNil}, impl.Piece{Kind: impl.DocFlatAlt}, impl.Piece{Kind: impl.DocGroup})
 	}
+	alts = fullDoc(alts)
 	unmet := append(all(none, 2*rounds-1), flat)
 	checkLayout(t, "alts, not met", alts, 0, "", unmet...)
 }
