@@ -61,11 +61,7 @@ func ToUnits(points []int) ([]int, int) {
 		if !isPoint(p) {
 			return nil, CodeBad
 		}
-		if p < firstPair {
-			units = append(units, p)
-		} else {
-			units = append(units, firstHigh+(p-firstPair)/pairStep, firstLow+(p-firstPair)%pairStep)
-		}
+		units = appendUnits(units, p)
 	}
 	return units, CodeOK
 }
@@ -168,6 +164,13 @@ func appendForm(b []byte, point rune) []byte {
 
 func onByte(point rune) byte {
 	return 0x80 | byte(point&0x3f)
+}
+
+func appendUnits(units []int, p int) []int {
+	if p < firstPair {
+		return append(units, p)
+	}
+	return append(units, firstHigh+(p-firstPair)/pairStep, firstLow+(p-firstPair)%pairStep)
 }
 
 func isPoint(p int) bool {
